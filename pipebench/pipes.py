@@ -2,15 +2,20 @@
 
 from pipebench.instructions import NO_REGISTER, is_instruction, reads, turns, writes, writes_late
 from pipebench.reckoning import branch_end, other_way, reckoned
-from pipebench.words import d_of, f_of, last_bits_of, next_of, op_of
+from pipebench.states import State, own_state, seen_with
+from pipebench.traps import CAUSE_INTERRUPT, CAUSE_NO_INSTRUCTION, CAUSE_TRAP, trapped
+from pipebench.words import d_of, last_bits_of, next_of, op_of
 
-TRAP_ADDRESS = 2
-CAUSE_INTERRUPT = 1
-CAUSE_NO_INSTRUCTION = 2
-CAUSE_TRAP = 16
+# The kinds of ticks.
+WENT_STRAIGHT = 0
+WENT_ON = 1
+WENT_ANOTHER_WAY = 2
+WAITED = 3
+TURNED = 4
+WAS_HALTED = 5
 
 
-class Pipe:
+class Pipe(State):
     """A pipe, at first all 0 and empty.
 
     An empty place is None. Else in_read is (address, word), in_reckon is
@@ -19,17 +24,26 @@ class Pipe:
     """
 
     def __init__(self):
-        self.registers = [0] * 8
-        self.may = 0
-        # What the document calls from, a word that Python keeps for itself.
-        self.origin = 0
-        self.cause = 0
-        self.halted = 0
+        State.__init__(self)
         self.fetching = 0
         self.in_read = None
         self.in_reckon = None
         self.in_memory = None
         self.in_put = None
+
+    def copied(self):
+        other = Pipe()
+        other.registers = list(self.registers)
+        other.may = self.may
+        other.origin = self.origin
+        other.cause = self.cause
+        other.halted = self.halted
+        other.fetching = self.fetching
+        other.in_read = self.in_read
+        other.in_reckon = self.in_reckon
+        other.in_memory = self.in_memory
+        other.in_put = self.in_put
+        return other
 
 
 def pc_of(pipe):
@@ -47,8 +61,7 @@ def registers_seen(pipe):
 
 
 def seen(pipe):
-    """What's seen from outside: pc, may, from, cause, halted, r0 to r7."""
-    return [pc_of(pipe), pipe.may, pipe.origin, pipe.cause, pipe.halted] + registers_seen(pipe)
+    return seen_with(pipe, pc_of(pipe), registers_seen(pipe))
 
 
 def take_back(pipe, address):
@@ -63,14 +76,6 @@ def empty_pipe(pipe):
     pipe.registers = registers_seen(pipe)
     pipe.in_put = None
     take_back(pipe, pc_of(pipe))
-
-
-def trapped(pipe, cause, origin):
-    """Do a trap; answer where it goes on."""
-    pipe.origin = origin
-    pipe.cause = cause
-    pipe.may = 0
-    return TRAP_ADDRESS
 
 
 def stored(pipe, world):
@@ -101,22 +106,13 @@ def led_away(pipe):
     return address
 
 
-def own_state(pipe):
+def own_to_put(pipe):
     """Do kind 13; answer what goes to put, or None."""
     word = pipe.in_memory[1]
-    v = pipe.in_memory[2]
-    f = f_of(word)
-    if f == 0:
-        return (d_of(word), pipe.origin)
-    if f == 1:
-        return (d_of(word), pipe.cause)
-    if f == 4:
-        return (d_of(word), pipe.may)
-    if f == 2:
-        pipe.origin = v
-    else:
-        pipe.may = v % 2
-    return None
+    value = own_state(pipe, word, pipe.in_memory[2])
+    if value is None:
+        return None
+    return (d_of(word), value)
 
 
 def meet_memory(pipe, world, line):
@@ -135,7 +131,7 @@ def meet_memory(pipe, world, line):
     if op == 6:
         return (stored(pipe, world), None)
     if op == 13:
-        return (None, own_state(pipe))
+        return (None, own_to_put(pipe))
     if op == 5:
         return (None, (d_of(word), world.read_at(place[2])))
     if writes(word) != NO_REGISTER:
@@ -191,42 +187,51 @@ def fetch(pipe, world):
 
 
 def turn_or_fetch(pipe, world):
+    """Let read's place turn or fetch go on; answer the tick's kind."""
     place = pipe.in_read
     if place is not None and turns(place[1]):
         pipe.in_read = None
         pipe.fetching = branch_end(place[0], place[1])
-    else:
-        fetch(pipe, world)
+        return TURNED
+    fetch(pipe, world)
+    return WENT_STRAIGHT
 
 
 def move_on(pipe, world, to_put):
-    """Move reckon, read and fetch on, where memory's place lets them."""
+    """Move reckon, read and fetch on, where memory's place lets them; answer the tick's kind."""
     to_memory = reckon(pipe.in_reckon)
     way = way_of(pipe.in_reckon)
     if way is not None:
         take_back(pipe, way)
+        kind = WENT_ANOTHER_WAY
     elif waits(pipe):
         pipe.in_reckon = None
+        kind = WAITED
     else:
         pipe.in_reckon = read_values(pipe, to_memory, to_put)
-        turn_or_fetch(pipe, world)
+        kind = turn_or_fetch(pipe, world)
     pipe.in_memory = to_memory
+    return kind
 
 
 def tick(pipe, world, line):
-    """Do a tick, the line being up (1) or not (0); answer 1 if something's done, else 0."""
+    """Do a tick, the line being up (1) or not (0).
+
+    Answers 1 if something's done, else 0; and the tick's kind.
+    """
     if pipe.halted == 1:
-        return 0
+        return (0, WAS_HALTED)
     done = 0 if pipe.in_memory is None else 1
     # Memory's place may change the world first: where that could show in what
     # fetch or read takes from it, they do nothing in this tick.
     met = meet_memory(pipe, world, line)
     if met[0] is not None:
         take_back(pipe, met[0])
+        kind = WENT_ON
     else:
-        move_on(pipe, world, met[1])
+        kind = move_on(pipe, world, met[1])
     # Only now, as the values read above are those from before the tick.
     if pipe.in_put is not None:
         pipe.registers[pipe.in_put[0]] = pipe.in_put[1]
     pipe.in_put = met[1]
-    return done
+    return (done, kind)

@@ -1,6 +1,6 @@
 """What an instruction makes of the values that it has read."""
 
-from pipebench.instructions import is_instruction, turns
+from pipebench.instructions import turns
 from pipebench.words import SIZE, f_of, i6_of, i8_of, i9_of, next_of, op_of, with_sign
 
 
@@ -30,14 +30,18 @@ def compared(f, x, y):
         return 1 if with_sign(x, SIZE) < with_sign(y, SIZE) else 0
     if f == 1:
         return 1 if x < y else 0
-    return 1 if x == y else 0
+    if f == 2:
+        return 1 if x == y else 0
+    # Other f are no instruction, and nothing becomes of it.
+    return 0
 
 
 def reckoned(address, word, x, y):
-    """The v that goes to memory's place."""
-    # A word that's no instruction has no kind, so nothing is reckoned of it.
-    if not is_instruction(word):
-        return 0
+    """The v that goes to memory's place.
+
+    It goes by the word's op, be it an instruction or not: what isn't one traps
+    before its v is used.
+    """
     op = op_of(word)
     if op == 0:
         return combined(f_of(word), x, y)
@@ -61,6 +65,11 @@ def branch_end(address, word):
     return (next_of(address) + i9_of(word)) % SIZE
 
 
+def jump_end(word, x):
+    """Where kind 10 leads."""
+    return (x + i6_of(word)) % SIZE
+
+
 def branch_taken(word, x):
     """Whether a word of kind 7 or 8 leads away from next."""
     if op_of(word) == 7:
@@ -72,7 +81,7 @@ def other_way(address, word, x):
     """Where fetching has to go on instead, or None if it went the right way."""
     op = op_of(word)
     if op == 10:
-        return (x + i6_of(word)) % SIZE
+        return jump_end(word, x)
     if op != 7 and op != 8:
         return None
     taken = branch_taken(word, x)

@@ -12,13 +12,25 @@ class World:
         self.waiting = [[] for k in range(OUTSIDES)]
         self.to_tell = []
 
-    def read_at(self, address):
+    def copied(self):
+        other = World()
+        other.memory = list(self.memory)
+        other.waiting = [list(row) for row in self.waiting]
+        other.to_tell = list(self.to_tell)
+        return other
+
+    def looked_at(self, address):
+        """What would be read there; what waits goes on waiting."""
         if address < MEMORY_SIZE:
             return self.memory[address]
         row = self.waiting[address - MEMORY_SIZE]
-        if len(row) == 0:
-            return 0
-        return row.pop(0)
+        return row[0] if len(row) > 0 else 0
+
+    def read_at(self, address):
+        word = self.looked_at(address)
+        if address >= MEMORY_SIZE and len(self.waiting[address - MEMORY_SIZE]) > 0:
+            self.waiting[address - MEMORY_SIZE].pop(0)
+        return word
 
     def fetched_at(self, address):
         if address < MEMORY_SIZE:
@@ -30,3 +42,7 @@ class World:
             self.memory[address] = word
         else:
             self.to_tell.append((address - MEMORY_SIZE, word))
+
+
+def worlds_alike(one, other):
+    return one.memory == other.memory and one.waiting == other.waiting and one.to_tell == other.to_tell

@@ -1,9 +1,13 @@
-"""What the tests share: words of instructions, calls, and a second machine to hold the pipe against.
+"""What the tests share: words of instructions, calls, and a second bench to hold the first against.
 
-The second machine is written from the manual's words alone: it goes step by
-step and has no places. When something is done is told by how far apart two
-things are that are done one behind the other.
+On the second bench are two machines side by side. One is written from the
+manual's words alone: it goes step by step and has no places. When something is
+done is told by how far apart two things are that are done one behind the other.
+The other has places, and makes at each tick all of them out of all that stood
+there before.
 """
+
+import copy
 
 from pipebench.benches import answers
 
@@ -128,6 +132,52 @@ def seen():
     return [9]
 
 
+def place(i):
+    return [10, i]
+
+
+def trace(n, ups=()):
+    return [11, n, len(ups)] + list(ups)
+
+
+def counts():
+    return [12]
+
+
+def asks(w):
+    return [13, w]
+
+
+def manual(n, ups=()):
+    return [14, n, len(ups)] + list(ups)
+
+
+def same(n, ups=()):
+    return [15, n, len(ups)] + list(ups)
+
+
+def cells():
+    return [16]
+
+
+def nets(n, ups=()):
+    return [17, n, len(ups)] + list(ups)
+
+
+def save(k):
+    return [18, k]
+
+
+def back(k):
+    return [19, k]
+
+
+# Where a call's row begins, behind how many numbers it has.
+ROWS = {1: 3, 5: 3, 7: 3, 8: 4, 11: 3, 14: 3, 15: 3, 17: 3}
+
+PLACES = [place(i) for i in range(5)]
+
+
 def ask(*calls):
     """The answers to the calls, a list each."""
     flat = []
@@ -158,18 +208,11 @@ def signed(value, bits):
     return value - (1 << bits) if value >> (bits - 1) else value
 
 
-class Manual:
-    """The manual's machine with its world, step by step; ticks() tells when a step is due."""
-
+class SecondWorld:
     def __init__(self):
-        self.r = [0] * 8
-        self.pc = self.may = self.from_ = self.cause = self.halted = 0
         self.memory = {}
         self.waiting = {k: [] for k in range(16)}
         self.told = []
-        self.left = 4
-
-    # the world
 
     def read(self, address):
         if address < 65520:
@@ -185,6 +228,19 @@ class Manual:
             self.memory[address] = word
         else:
             self.told.append((address - 65520, word))
+
+    def world(self):
+        return [{p: word for p, word in self.memory.items() if word}, self.waiting, self.told]
+
+
+class Manual(SecondWorld):
+    """The manual's machine with its world, step by step; tick() tells when a step is due."""
+
+    def __init__(self):
+        super().__init__()
+        self.r = [0] * 8
+        self.pc = self.may = self.from_ = self.cause = self.halted = 0
+        self.left = 4
 
     # the steps
 
@@ -356,71 +412,257 @@ def reads_of(word):
     return []
 
 
-class SecondBench:
-    """Calls 0 to 9 on the second machine."""
+def writes_of(word):
+    """The register that's written, or None."""
+    name = name_of(word)
+    if name in MAKES or name in ("addi", "ldi", "ldh", "ld", "jal", "jr", "from", "cause", "may"):
+        return (word >> 9) & 7
+    return None
+
+
+def late(word):
+    return name_of(word) in ("ld", "from", "cause", "may")
+
+
+def turning(word):
+    name = name_of(word)
+    return name == "jal" or (name in ("bz", "bnz") and bool(word & 256))
+
+
+def branch_end(address, word):
+    return (address + 1 + signed(word & 511, 9)) & 65535
+
+
+class SecondPipe(SecondWorld):
+    """The pipe with its world: at each tick what stands everywhere is made out of what stood there before."""
 
     def __init__(self):
-        self.m = Manual()
+        super().__init__()
+        self.now = {"r": (0,) * 8, "may": 0, "from": 0, "cause": 0, "halted": 0,
+                    "fetch": 0, "read": None, "reckon": None, "memory": None, "put": None}
+
+    def registers(self):
+        now = self.now
+        return [now["put"][1] if now["put"] and now["put"][0] == k else now["r"][k] for k in range(8)]
+
+    def pc(self):
+        now = self.now
+        filled = [now[name] for name in ("memory", "reckon", "read") if now[name]]
+        return filled[0][0] if filled else now["fetch"]
+
+    def seen(self):
+        now = self.now
+        return [self.pc(), now["may"], now["from"], now["cause"], now["halted"]] + self.registers()
+
+    def emptied(self, **other):
+        self.now = dict(self.now, r=tuple(self.registers()), fetch=self.pc(), read=None, reckon=None, memory=None,
+                        put=None)
+        self.now.update(other)
+
+    def places(self):
+        """As call 10 answers of each."""
+        now = self.now
+        rows = [[0] if now["halted"] else [1, now["fetch"]]]
+        return rows + [[1, *now[name]] if now[name] else [0] for name in ("read", "reckon", "memory", "put")]
+
+    def cells(self):
+        now = self.now
+        bits = ""
+        for value in now["r"] + (now["fetch"],):
+            bits += format(value, "016b")[::-1]
+        for name, widths in (("read", "  "), ("reckon", "    "), ("memory", "    "), ("put", "r ")):
+            values = now[name] or (0,) * len(widths)
+            bits += "1" if now[name] else "0"
+            for value, width in zip(values, widths):
+                bits += format(value, "03b" if width == "r" else "016b")[::-1]
+        bits += str(now["may"]) + format(now["from"], "016b")[::-1] + format(now["cause"], "05b")[::-1]
+        bits += str(now["halted"])
+        assert len(bits) == 350
+        return [int(bits[k:k + 16][::-1], 2) for k in range(0, 350, 16)]
+
+    # a tick
+
+    def tick(self, line):
+        """Answers 1 if something's done, else 0; and the tick's kind."""
+        old = self.now
+        if old["halted"]:
+            return (0, 5)
+        fetched = self.fetched(old["fetch"])
+        changes, on, to_put = self.at_memory(old, line)
+        to_memory, way = self.at_reckon(old)
+        new = dict(old, put=to_put, **changes)
+        if old["put"]:
+            new["r"] = tuple(old["put"][1] if k == old["put"][0] else value for k, value in enumerate(old["r"]))
+        if on is not None:
+            kind, then = 1, {"memory": None, "reckon": None, "read": None, "fetch": on}
+        elif way is not None:
+            kind, then = 2, {"memory": to_memory, "reckon": None, "read": None, "fetch": way}
+        elif self.waits(old):
+            kind, then = 3, {"memory": to_memory, "reckon": None}
+        elif old["read"] and turning(old["read"][1]):
+            kind, then = 4, {"memory": to_memory, "reckon": self.at_read(old, to_memory, to_put), "read": None,
+                             "fetch": branch_end(*old["read"])}
+        else:
+            kind, then = 0, {"memory": to_memory, "reckon": self.at_read(old, to_memory, to_put),
+                             "read": (old["fetch"], fetched), "fetch": (old["fetch"] + 1) & 65535}
+        self.now = dict(new, **then)
+        return (1 if old["memory"] else 0, kind)
+
+    def at_memory(self, old, line):
+        """What changes, where it goes on, what goes to put."""
+        if not old["memory"]:
+            return {}, None, None
+        address, word, v, s = old["memory"]
+        after, d, name = (address + 1) & 65535, (word >> 9) & 7, name_of(word)
+        if old["may"] and line:
+            return {"from": address, "cause": 1, "may": 0}, 2, None
+        if name is None:
+            return {"from": address, "cause": 2, "may": 0}, 2, None
+        if name == "trap":
+            return {"from": after, "cause": 16 + (word & 7), "may": 0}, 2, None
+        if name == "ret":
+            return {"may": 1}, old["from"], None
+        if name == "halt":
+            return {"halted": 1}, address, None
+        if name == "ld":
+            return {}, None, (d, self.read(v))
+        if name == "st":
+            self.store(v, s)
+            begun = [old[other][0] for other in ("reckon", "read") if old[other]] + [old["fetch"]]
+            return {}, after if v in begun else None, None
+        if name in ("from", "cause", "may"):
+            return {}, None, (d, old[name])
+        if name == "back":
+            return {"from": v}, None, None
+        if name == "let":
+            return {"may": v & 1}, None, None
+        return {}, None, None if writes_of(word) is None else (d, v)
+
+    def at_reckon(self, old):
+        """What goes to memory, and another way that's gone."""
+        if not old["reckon"]:
+            return None, None
+        address, word, x, y = old["reckon"]
+        after, kind, name = (address + 1) & 65535, word >> 12, name_of(word)
+        to = (x + signed(word & 63, 6)) & 65535
+        v, way = 0, None
+        if name in MAKES:
+            v = MAKES[name](x, y) & 65535
+        elif kind in (2, 5, 6):
+            v = to
+        elif kind == 3:
+            v = signed(word & 511, 9) & 65535
+        elif kind == 4:
+            v = ((word & 255) << 8) | (x & 255)
+        elif kind in (9, 10):
+            v = after
+        elif kind == 13:
+            v = x
+        if name == "jr":
+            way = to
+        elif name in ("bz", "bnz"):
+            taken = (x == 0) == (name == "bz")
+            if taken != turning(word):
+                way = branch_end(address, word) if taken else after
+        return (address, word, v, y), way
+
+    def waits(self, old):
+        if not old["read"] or not old["reckon"]:
+            return False
+        return late(old["reckon"][1]) and writes_of(old["reckon"][1]) in reads_of(old["read"][1])
+
+    def at_read(self, old, to_memory, to_put):
+        """What goes to reckon."""
+        if not old["read"]:
+            return None
+        values = []
+        for k in reads_of(old["read"][1]):
+            # The oldest first, so the last one counts.
+            known = [old["r"][k]] + [pair[1] for pair in (old["put"], to_put) if pair and pair[0] == k]
+            if to_memory and writes_of(to_memory[1]) == k:
+                known.append(to_memory[2])
+            values.append(known[-1])
+        return (*old["read"], *(values + [0, 0])[:2])
+
+
+class SecondBench:
+    """The calls on the second machines, which are held against one another too."""
+
+    def __init__(self):
+        self.slots = {}
+        self.call_0(None, None)
 
     def answer(self, call):
-        number, row = call[0], None
-        whole = call[1:3]
-        if number in (1, 5, 7):
-            row = call[3:]
-        if number == 8:
-            row = call[4:]
-        return getattr(self, "call_%d" % number)(whole, row)
+        number = call[0]
+        at = ROWS.get(number)
+        whole = call[1:at - 1] if at else call[1:]
+        answer = getattr(self, "call_%d" % number)(whole, call[at:] if at else None)
+        assert self.m.seen() == self.p.seen()
+        return answer
+
+    def tick(self, line):
+        done, kind = self.p.tick(line)
+        assert done == self.m.tick(line)
+        self.counts["ticks"] += 1
+        self.counts["done"] += done
+        self.counts[kind] += 1
+        return done, kind
 
     def call_0(self, whole, row):
-        self.m = Manual()
+        self.m, self.p = Manual(), SecondPipe()
+        self.counts = dict.fromkeys(["ticks", "done", 0, 1, 2, 3, 4, 5], 0)
         return [0]
 
     def call_1(self, whole, row):
         places = range(whole[0], whole[0] + len(row))
         if any(p > 65519 for p in places):
             return [-1]
-        self.m.emptied()
-        self.m.memory.update(zip(places, row))
+        for machine in (self.m, self.p):
+            machine.emptied()
+            machine.memory.update(zip(places, row))
         return [len(row)]
 
     def call_2(self, whole, row):
         p, n = whole
         if n > 64 or any(q > 65519 for q in range(p, p + n)):
             return [-1]
-        return [n] + [self.m.memory.get(q, 0) for q in range(p, p + n)]
+        return [n] + [self.p.memory.get(q, 0) for q in range(p, p + n)]
 
     def call_3(self, whole, row):
-        if whole[0] > 7:
+        i, v = whole
+        if i > 7:
             return [-1]
         self.m.emptied()
-        self.m.r[whole[0]] = whole[1]
+        self.m.r[i] = v
+        self.p.emptied(r=tuple(v if k == i else value for k, value in enumerate(self.p.registers())))
         return [0]
 
     def call_4(self, whole, row):
         self.m.emptied()
         self.m.pc, self.m.halted = whole[0], 0
+        self.p.emptied(fetch=whole[0], halted=0)
         return [0]
 
     def call_5(self, whole, row):
         if whole[0] > 15:
             return [-1]
-        waiting = self.m.waiting[whole[0]]
-        if len(waiting + row) > 64:
+        if len(self.p.waiting[whole[0]] + row) > 64:
             return [-3]
-        waiting += row
-        return [len(waiting)]
+        for machine in (self.m, self.p):
+            machine.waiting[whole[0]] += row
+        return [len(self.p.waiting[whole[0]])]
 
     def call_6(self, whole, row):
-        flat = [number for pair in self.m.told for number in pair]
-        many = len(self.m.told)
-        self.m.told = []
-        return [many] + flat
+        assert self.m.world() == self.p.world()
+        flat = [number for pair in self.p.told for number in pair]
+        self.m.told, self.p.told = [], []
+        return [len(flat) // 2] + flat
 
     def call_7(self, whole, row):
         if whole[0] > 2000:
             return [-1]
         ups = set(row)
-        done = sum([self.m.tick(t in ups) for t in range(whole[0])])
+        done = sum([self.tick(t in ups)[0] for t in range(whole[0])])
         return [done, self.m.halted]
 
     def call_8(self, whole, row):
@@ -430,9 +672,67 @@ class SecondBench:
         ups = set(row)
         ticks = things = 0
         while things < k and not self.m.halted and ticks < n:
-            things += self.m.tick(ticks in ups)
+            things += self.tick(ticks in ups)[0]
             ticks += 1
         return [ticks, things, 0 if things == k else 1 if self.m.halted else 2]
 
     def call_9(self, whole, row):
         return self.m.seen()
+
+    def call_10(self, whole, row):
+        return self.p.places()[whole[0]] if whole[0] < 5 else [-1]
+
+    def call_11(self, whole, row):
+        if whole[0] > 64:
+            return [-1]
+        answer = []
+        for t in range(whole[0]):
+            answer += [(shown_ + [65536])[1] for shown_ in self.p.places()[:4]]
+            answer += self.tick(t in row)
+        return answer
+
+    def call_12(self, whole, row):
+        return [self.counts[key] for key in ("ticks", "done", 1, 2, 3, 4)]
+
+    def call_13(self, whole, row):
+        word = whole[0]
+        if name_of(word) is None:
+            return [-4]
+        to = writes_of(word)
+        return [len(reads_of(word))] + reads_of(word) + [8 if to is None else to, int(late(word)), int(turning(word))]
+
+    def call_14(self, whole, row):
+        if whole[0] > 2000:
+            return [-1]
+        machine, ups = copy.deepcopy(self.m), set(row)
+        for t in range(whole[0]):
+            machine.step(t in ups)
+        return machine.seen()
+
+    def call_15(self, whole, row):
+        if whole[0] > 2000:
+            return [-1]
+        pipe, machine, ups, things = copy.deepcopy(self.p), copy.deepcopy(self.m), set(row), 0
+        for t in range(whole[0]):
+            if pipe.tick(t in ups)[0]:
+                machine.step(t in ups)
+                things += 1
+        return [things, int(pipe.seen() == machine.seen() and pipe.world() == machine.world())]
+
+    def call_16(self, whole, row):
+        return self.p.cells()
+
+    def call_17(self, whole, row):
+        return [1] if whole[0] <= 64 else [-1]
+
+    def call_18(self, whole, row):
+        if whole[0] > 3:
+            return [-1]
+        self.slots[whole[0]] = copy.deepcopy((self.m, self.p, self.counts))
+        return [0]
+
+    def call_19(self, whole, row):
+        if whole[0] not in self.slots:
+            return [-4]
+        self.m, self.p, self.counts = copy.deepcopy(self.slots[whole[0]])
+        return [0]

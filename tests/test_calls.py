@@ -1,10 +1,11 @@
-"""The ten calls: ordinary inputs, edges, refusals; answers worked out by hand."""
+"""The calls new to seen: ordinary inputs, edges; the refusals of all calls; answers worked out by hand."""
 
 import unittest
 
 from pipebench.benches import answers
 from tests.helper import (
-    HALT, add, addi, ask, feed, get, go, jal, ld, ldi, new, own, put, seen, set_, shown, st, tick, till, told, trap,
+    HALT, PLACES, add, addi, ask, asks, back, cells, counts, feed, get, go, jal, ld, ldi, manual, nets, new, own, place,
+    put, same, save, seen, set_, shown, st, tick, till, told, trace, trap,
 )
 
 NOP = addi(0, 0, 0)
@@ -98,14 +99,17 @@ class Emptying(unittest.TestCase):
                 self.assertEqual(got[6], shown({1: 1, 2: 2, 3: 3, **r7}, pc=3))
 
     def test_what_only_asks_and_feed_do_not_empty(self):
-        for call in (seen(), get(0, 1), told(), feed(0, [1]), tick(0), till(0, 5), till(5, 0)):
+        for call in (seen(), get(0, 1), told(), feed(0, [1]), tick(0), till(0, 5), till(5, 0), place(0), place(4),
+                     trace(0), counts(), asks(0), manual(9), same(9), cells(), nets(9), save(0)):
             with self.subTest(call=call):
                 got = ask(put(0, self.PROGRAM), tick(5), call, tick(1), tick(1))
                 self.assertEqual(got[3:], [[1, 0], [1, 0]])
 
     def test_a_refused_one_does_not_empty(self):
         for call, number in ((put(65519, [1, 2]), -1), (set_(8, 9), -1), (get(0, 65), -1), (feed(16, [1]), -1),
-                             (feed(0, [1] * 65), -3), (tick(2001), -1), (till(1, 2001), -1)):
+                             (feed(0, [1] * 65), -3), (tick(2001), -1), (till(1, 2001), -1), (place(5), -1),
+                             (trace(65), -1), (asks(65535), -4), (manual(2001), -1), (same(2001), -1), (nets(65), -1),
+                             (save(4), -1), (back(0), -4), (back(4), -4)):
             with self.subTest(call=call):
                 got = ask(put(0, self.PROGRAM), tick(5), call, tick(1), tick(1))
                 self.assertEqual(got[2:], [[number], [1, 0], [1, 0]])
@@ -267,23 +271,33 @@ class Seen(unittest.TestCase):
 
 
 class Refusals(unittest.TestCase):
-    """That nothing is changed by a refusal: what's seen, memory, what waits, what's to be told, the pipe."""
+    """That nothing is changed by a refusal: what's seen, the pipe, the world, the counts, the slots."""
 
     REFUSED = [(put(65519, [1, 2]), -1), (put(65520, [1]), -1), (put(60523, [7] * 4998), -1), (get(0, 65), -1),
                (get(65519, 2), -1), (set_(8, 1), -1), (feed(16, [1]), -1), (feed(1, [1] * 62), -3),
-               (feed(16, [1] * 65), -1), (tick(2001, [0, 1]), -1), (till(1, 2001), -1), (till(0, 65535), -1)]
+               (feed(16, [1] * 65), -1), (tick(2001, [0, 1]), -1), (till(1, 2001), -1), (till(0, 65535), -1),
+               (place(5), -1), (trace(65, [0, 1]), -1), (asks((1 << 12) | 3), -4), (manual(2001, [0]), -1),
+               (same(2001, [0]), -1), (nets(65, [0]), -1), (save(4), -1), (back(3), -4), (back(4), -4)]
 
     def test_nothing_is_changed(self):
         program = [own("let", 1), st(2, 7, 0), st(3, 7, 1), ldi(4, 4), ld(5, 7, 1), add(6, 5, 5), st(6, 7, 2), HALT]
-        begin = [put(0, program), set_(1, 1), set_(2, 2), set_(3, 3), set_(7, 65520), feed(1, [30, 31, 32, 33, 34])]
-        for ticks in range(14):
-            rest = [seen(), get(0, 16), get(65504, 16), feed(1, []), told(), tick(1), seen(), tick(20), seen(), told(),
-                    feed(1, []), get(0, 16)]
+        begin = [put(0, program), set_(1, 1), set_(2, 2), set_(3, 3), set_(7, 65520), feed(1, [30, 31, 32, 33, 34]),
+                 tick(2), save(2)]
+        for ticks in range(12):
+            looks = [seen(), *PLACES, cells(), counts(), get(0, 16), get(65504, 16), feed(1, []), told()]
+            rest = [*looks, tick(1), seen(), tick(20), *looks, back(2), *looks, back(3)]
             want = ask(*begin, tick(ticks), *rest)[len(begin) + 1:]
             for call, number in self.REFUSED:
                 got = ask(*begin, tick(ticks), call, *rest)[len(begin) + 1:]
                 self.assertEqual(got[0], [number])
                 self.assertEqual(got[1:], want)
+
+    def test_the_numbers_just_below(self):
+        calls = [put(65519, [1]), get(0, 64), get(65519, 1), set_(7, 1), feed(15, [1] * 64), tick(2000), till(1, 2000),
+                 place(4), trace(64), asks((1 << 12) | 2), manual(2000), same(2000), nets(64), save(3), back(3)]
+        for call in calls:
+            with self.subTest(call=call[:3]):
+                self.assertGreaterEqual(ask(save(3), call)[1][0], 0)
 
 
 if __name__ == "__main__":

@@ -103,7 +103,7 @@ class Form(unittest.TestCase):
             for node in ast.walk(tree):
                 if isinstance(node, ast.ImportFrom):
                     self.assertIn(node, tree.body)
-                    self.assertRegex(node.module, r"^pipebench\.[a-z]+$")
+                    self.assertRegex(node.module, r"^pipebench\.[a-z][a-z_]*$")
                     self.assertEqual(node.level, 0)
                     source = ast.parse((PACKAGE / (node.module[10:] + ".py")).read_text())
                     for one in source.body:
@@ -162,6 +162,15 @@ class Form(unittest.TestCase):
                     self.assertIsInstance(part, (ast.FunctionDef, ast.Expr))
 
 
+    def test_a_base_is_begun_by_its_name(self):
+        for name, text, tree in trees():
+            for part in tree.body:
+                for node in ast.walk(part):
+                    if isinstance(node, ast.Attribute) and node.attr == "__init__":
+                        self.assertIsInstance(part, ast.ClassDef, name)
+                        self.assertEqual(node.value.id, part.bases[0].id, name)
+
+
 class Names(unittest.TestCase):
     def bound(self, node):
         if isinstance(node, ast.Name) and isinstance(node.ctx, ast.Store):
@@ -181,7 +190,7 @@ class Names(unittest.TestCase):
                     self.assertRegex(word, r"^[A-Za-z][A-Za-z0-9_]*$", name)
                     self.assertNotIn(word, dir(builtins), name)
                     self.assertNotIn(word, NOWHERE, name)
-            if isinstance(node, ast.Attribute):
+            if isinstance(node, ast.Attribute) and node.attr != "__init__":
                 self.assertRegex(node.attr, r"^[A-Za-z][A-Za-z0-9_]*$", name)
                 self.assertNotIn(node.attr, NOWHERE + ["format", "format_map"], name)
 

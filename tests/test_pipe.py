@@ -31,7 +31,7 @@ class Belt:
         """What was done at each of the ticks."""
         done = []
         for k in range(many):
-            done.append(tick(self.pipe, self.world, 1 if self.ticks in self.line else 0))
+            done.append(tick(self.pipe, self.world, 1 if self.ticks in self.line else 0)[0])
             self.ticks += 1
         return done
 
@@ -86,7 +86,9 @@ class Flow(unittest.TestCase):
             (bz(1, 4), 1000, 0, 0), (bnz(4, 4), 0, 0, 0), (jal(3, 4), 0, 0, 21), (jr(3, 1, 4), 1000, 0, 21),
             (trap(4), 0, 0, 0), (RET, 0, 0, 0), (HALT, 0, 0, 0), (own("from", 1), 0, 0, 0),
             (own("back", 1), 1000, 0, 1000), (own("let", 2), 700, 0, 700), (own("may", 1), 0, 0, 0),
-            (65535, 0, 0, 0), ((1 << 12) | 5, 0, 0, 0), ((4 << 12) | (1 << 9) | 511, 0, 0, 0),
+            # What's no instruction reads nothing; its kind is its op.
+            (65535, 0, 0, 0), ((1 << 12) | 5, 0, 0, 0), ((4 << 12) | (1 << 9) | 511, 0, 0, 255 * 256),
+            ((13 << 12) | (1 << 9) | 8 | 2, 0, 0, 0), (trap(8), 0, 0, 0), (RET + 1, 0, 0, 0), (HALT + 1, 0, 0, 0),
         ]
         for word, x, y, v in rows:
             with self.subTest(word=hex(word)):

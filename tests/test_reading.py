@@ -2,9 +2,12 @@
 
 import unittest
 
-from pipebench.benches import CallNotBuilt, answers
+from pipebench.benches import answers
 from pipebench.calls import read_calls
-from tests.helper import HALT, feed, get, go, ldi, new, put, seen, set_, tick, till, told
+from tests.helper import (
+    HALT, asks, back, cells, counts, feed, get, go, ldi, manual, nets, new, place, put, same, save, seen, set_, tick, till,
+    told, trace,
+)
 
 
 class Reading(unittest.TestCase):
@@ -50,11 +53,6 @@ class Reading(unittest.TestCase):
     def test_rows_that_look_like_calls(self):
         self.assertEqual(answers([1, 30, 3, 9, 0, 6, 2, 30, 3]), [1, 3, 4, 3, 9, 0, 6])
 
-    def test_calls_of_a_later_stage_are_told_apart_and_not_answered(self):
-        for numbers, call in self.TWENTY[10:]:
-            with self.subTest(numbers=numbers):
-                self.assertRaises(CallNotBuilt, answers, numbers)
-
 
 class GivenBack(unittest.TestCase):
     def test_counts_before_the_answers(self):
@@ -64,18 +62,31 @@ class GivenBack(unittest.TestCase):
             1, 0, 1, 2, 3, 2, ldi(1, 5), HALT, 1, -1, 1, 0, 1, 0, 1, 2, 1, 0, 2, 1, 0, 3, 1, 1, 1,
             13, 1, 0, 0, 0, 1, 0, 5, 6, 0, 0, 0, 0, 0])
 
+    def test_counts_before_the_answers_of_the_others(self):
+        calls = place(0) + place(1) + trace(1) + trace(0) + counts() + asks(HALT) + asks(65535) + manual(1) + same(4)
+        calls += cells() + nets(2) + save(1) + back(1) + back(0)
+        self.assertEqual(answers(calls), [
+            2, 1, 0, 1, 0, 6, 0, 65536, 65536, 65536, 0, 0, 0, 6, 1, 0, 0, 0, 0, 0, 4, 0, 8, 0, 0, 1, -4,
+            13, 1, 0, 0, 0, 0, 0, 0, 0, 0, 0, 0, 0, 0, 2, 2, 1, 22, 0, 0, 0, 0, 0, 0, 0, 0, 1, 1] + [0] * 12 + [
+            1, 1, 1, 0, 1, 0, 1, -4])
+
     def test_refusals_are_one_number(self):
         self.assertEqual(answers(get(0, 65) + feed(0, [0] * 65) + tick(2001)), [1, -1, 1, -3, 1, -1])
+        calls = place(5) + trace(65) + asks(65535) + manual(2001) + same(2001) + nets(65) + save(4) + back(4)
+        self.assertEqual(answers(calls), [1, -1, 1, -1, 1, -4, 1, -1, 1, -1, 1, -1, 1, -1, 1, -4])
 
     def test_kinds(self):
-        given = answers(put(0, [ldi(1, 5), HALT]) + tick(9) + seen() + told() + get(0, 3) + till(3, 3) + get(9, 65))
+        given = answers(put(0, [ldi(1, 5), HALT]) + tick(9) + seen() + told() + get(0, 3) + till(3, 3) + get(9, 65)
+                        + go(0) + trace(9) + place(0) + place(4) + counts() + asks(5) + asks(65535) + manual(5) + same(5)
+                        + cells() + nets(5) + save(0) + back(0) + back(1))
         self.assertIs(type(given), list)
         self.assertEqual({type(number) for number in given}, {int})
 
 
 class HandedIn(unittest.TestCase):
     CALLS = put(0, [ldi(1, 5), 0x6e00, HALT]) + set_(7, 65520) + feed(2, [5, 6]) + tick(9, [3, 1]) + seen() + told()
-    CALLS += till(4, 9, [8, 1]) + feed(2, [7]) + get(0, 5)
+    CALLS += till(4, 9, [8, 1]) + feed(2, [7]) + get(0, 5) + go(0) + trace(3, [2, 1]) + place(2) + counts() + asks(5)
+    CALLS += save(1) + manual(4, [3, 1]) + same(4, [3, 1]) + cells() + nets(4, [3, 1]) + new() + back(1) + seen()
 
     def test_the_list_stays_the_same(self):
         calls = list(self.CALLS)
