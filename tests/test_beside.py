@@ -5,6 +5,7 @@ from unittest import mock
 
 from pipebench import trials
 from pipebench.gates import HIGH, LOW
+from pipebench.machines import Machine, machine_seen
 from pipebench.nets import Net
 from tests.helper import (
     HALT, PLACES, RET, add, addi, ask, bz, cells, counts, feed, get, go, jal, jr, ld, ldh, ldi, manual, nets, own, put,
@@ -26,6 +27,9 @@ BEGIN_BUSY = [put(0, BUSY), set_(0, 0), set_(1, 1), set_(2, 22), set_(6, 300), s
 
 class Manual(unittest.TestCase):
     PROGRAM = [ldi(1, 5), ldi(2, 7), add(3, 1, 2), HALT]
+
+    def test_a_machine_at_first(self):
+        self.assertEqual(machine_seen(Machine()), shown())
 
     def test_step_by_step(self):
         got = ask(put(0, self.PROGRAM), *[manual(n) for n in range(7)])

@@ -162,6 +162,32 @@ class Form(unittest.TestCase):
                     self.assertIsInstance(part, (ast.FunctionDef, ast.Expr))
 
 
+    def test_walked_at_once(self):
+        walkers = ("zip", "enumerate", "reversed", "range")
+        takers = ("list", "tuple", "dict", "sorted", "sum", "any", "all", "enumerate", "zip", "min", "max")
+        for name, text, tree in trees():
+            walked = []
+            for node in ast.walk(tree):
+                if isinstance(node, (ast.For, ast.comprehension)):
+                    walked.append(node.iter)
+                if isinstance(node, ast.Call) and isinstance(node.func, ast.Name) and node.func.id in takers:
+                    walked.extend(node.args[:1])
+            for node in ast.walk(tree):
+                if isinstance(node, ast.Call) and isinstance(node.func, ast.Name) and node.func.id in walkers:
+                    self.assertIn(node, walked, (name, node.lineno))
+
+    def test_no_keywords_and_no_sets(self):
+        for name, node in nodes():
+            if isinstance(node, ast.Call):
+                self.assertEqual(node.keywords, [], (name, node.lineno))
+                self.assertNotIn(getattr(node.func, "id", None), ("set", "frozenset"), (name, node.lineno))
+            self.assertNotIsInstance(node, ast.Set, name)
+
+    def test_init_gives_back_nothing(self):
+        for name, node in nodes():
+            if isinstance(node, ast.FunctionDef) and node.name == "__init__":
+                self.assertEqual([part for part in ast.walk(node) if isinstance(part, ast.Return)], [], name)
+
     def test_a_base_is_begun_by_its_name(self):
         for name, text, tree in trees():
             for part in tree.body:

@@ -3,7 +3,7 @@
 import unittest
 
 from tests.helper import (
-    HALT, KIND_0, KIND_1, PLACES, RET, add, addi, alu, ask, asks, back, bnz, bz, cells, cmp, counts, feed, get, go, jal,
+    HALT, KIND_0, KIND_1, PLACES, RET, add, addi, alu, ask, asks, bnz, bz, cells, cmp, counts, feed, get, go, jal,
     jr, ld, ldh, ldi, manual, name_of, nets, new, own, place, put, reads_of, same, save, seen, set_, shown, st, three,
     tick, till, told, trace, trap,
 )
