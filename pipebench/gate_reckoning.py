@@ -1,20 +1,17 @@
-"""Reckon's place of gates: what it makes, and which way is gone.
+"""Reckon's place of gates: what it makes, and which way is gone."""
 
-What it makes goes by the word's op, be it an instruction or not.
-"""
-
-from pipebench.gate_words import any_op, writes_late_wire, writes_wire
+from pipebench.gate_words import any_kind, writes_late_wire, writes_wire
 from pipebench.gates import LOW
 
 
 def is_difference(gates, word):
     """Whether the sum is to be x - y."""
-    return gates.either(word.ops[1], gates.both(word.ops[0], word.fs[1]))
+    return gates.either(word.kinds[1], gates.both(word.kinds[0], word.fs[1]))
 
 
 def total_of(gates, word, x, y):
     """x + y, x - y or x + i6, whichever the word wants, and the carry behind it."""
-    with_number = any_op(gates, word, (2, 5, 6, 10))
+    with_number = any_kind(gates, word, (2, 5, 6, 10))
     minus = is_difference(gates, word)
     second = [gates.differ(minus, wire) for wire in gates.row_chosen(with_number, y, word.i6)]
     return gates.summed(x, second, minus)
@@ -57,21 +54,21 @@ def v_of(gates, cells, total, following):
     x = cells.reckon_x
     y = cells.reckon_y
     return gates.picked([
-        (word.ops[0], combined_row(gates, word, x, y, total)),
-        (word.ops[1], [compared_wire(gates, word, x, y, total)] + [LOW] * 15),
-        (any_op(gates, word, (2, 5, 6)), total[0:16]),
-        (word.ops[3], word.i9),
-        (word.ops[4], x[0:8] + word.i8),
-        (any_op(gates, word, (9, 10)), following),
-        (word.ops[13], x),
+        (word.kinds[0], combined_row(gates, word, x, y, total)),
+        (word.kinds[1], [compared_wire(gates, word, x, y, total)] + [LOW] * 15),
+        (any_kind(gates, word, (2, 5, 6)), total[0:16]),
+        (word.kinds[3], word.i9),
+        (word.kinds[4], x[0:8] + word.i8),
+        (any_kind(gates, word, (9, 10)), following),
+        (word.kinds[13], x),
     ])
 
 
 def is_taken(gates, cells):
     """Whether it's a branch that the manual takes."""
     is_zero = gates.opposite(gates.any_of(cells.reckon_x))
-    ops = cells.reckon.ops
-    return gates.either(gates.both(ops[7], is_zero), gates.but_not(ops[8], is_zero))
+    kinds = cells.reckon.kinds
+    return gates.either(gates.both(kinds[7], is_zero), gates.but_not(kinds[8], is_zero))
 
 
 class GateReckon:
@@ -86,8 +83,8 @@ class GateReckon:
         self.writes = gates.both(cells.reckon_full, writes_wire(gates, word))
         self.writes_late = gates.both(cells.reckon_full, writes_late_wire(gates, word))
         taken = is_taken(gates, cells)
-        turned = gates.both(any_op(gates, word, (7, 8)), word.is_back)
-        jumps = word.ops[10]
+        turned = gates.both(any_kind(gates, word, (7, 8)), word.is_back)
+        jumps = word.kinds[10]
         self.another_way = gates.both(cells.reckon_full, gates.either(jumps, gates.differ(taken, turned)))
         branch_way = gates.row_chosen(taken, following, gates.summed(following, word.i9, LOW)[0:16])
         self.way = gates.row_chosen(jumps, branch_way, total[0:16])

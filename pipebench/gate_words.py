@@ -22,10 +22,10 @@ class GateWord:
     """What the wires of a word tell."""
 
     def __init__(self, gates, word):
-        self.ops = gates.one_up(word[12:16])
-        self.instruction = gates.opposite(gates.any_of(wrong_ways(gates, word, self.ops)))
+        ops = gates.one_up(word[12:16])
+        self.instruction = gates.opposite(gates.any_of(wrong_ways(gates, word, ops)))
         # Of what's no instruction none is up.
-        self.kinds = gates.masked(self.instruction, self.ops)
+        self.kinds = gates.masked(self.instruction, ops)
         self.fs = gates.one_up(word[0:3])
         self.d = word[9:12]
         self.a = word[6:9]
@@ -40,10 +40,6 @@ class GateWord:
 def any_kind(gates, word, kinds):
     """Whether it's an instruction of one of those kinds."""
     return gates.any_of([word.kinds[kind] for kind in kinds])
-
-
-def any_op(gates, word, ops):
-    return gates.any_of([word.ops[op] for op in ops])
 
 
 def own_written(gates, word):

@@ -1,6 +1,6 @@
 """What an instruction makes of the values that it has read."""
 
-from pipebench.instructions import turns
+from pipebench.instructions import is_instruction, turns
 from pipebench.words import SIZE, f_of, i6_of, i8_of, i9_of, next_of, op_of, with_sign
 
 
@@ -30,18 +30,14 @@ def compared(f, x, y):
         return 1 if with_sign(x, SIZE) < with_sign(y, SIZE) else 0
     if f == 1:
         return 1 if x < y else 0
-    if f == 2:
-        return 1 if x == y else 0
-    # Other f are no instruction, and nothing becomes of it.
-    return 0
+    return 1 if x == y else 0
 
 
 def reckoned(address, word, x, y):
-    """The v that goes to memory's place.
-
-    It goes by the word's op, be it an instruction or not: what isn't one traps
-    before its v is used.
-    """
+    """The v that goes to memory's place."""
+    # What's no instruction is of no kind, whatever its op.
+    if not is_instruction(word):
+        return 0
     op = op_of(word)
     if op == 0:
         return combined(f_of(word), x, y)

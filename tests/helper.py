@@ -543,20 +543,20 @@ class SecondPipe(SecondWorld):
         if not old["reckon"]:
             return None, None
         address, word, x, y = old["reckon"]
-        after, kind, name = (address + 1) & 65535, word >> 12, name_of(word)
+        after, name = (address + 1) & 65535, name_of(word)
         to = (x + signed(word & 63, 6)) & 65535
         v, way = 0, None
         if name in MAKES:
             v = MAKES[name](x, y) & 65535
-        elif kind in (2, 5, 6):
+        elif name in ("addi", "ld", "st"):
             v = to
-        elif kind == 3:
+        elif name == "ldi":
             v = signed(word & 511, 9) & 65535
-        elif kind == 4:
+        elif name == "ldh":
             v = ((word & 255) << 8) | (x & 255)
-        elif kind in (9, 10):
+        elif name in ("jal", "jr"):
             v = after
-        elif kind == 13:
+        elif name in KIND_13:
             v = x
         if name == "jr":
             way = to

@@ -184,6 +184,15 @@ class Nets(unittest.TestCase):
             for ups in ([], [4], [7, 8, 9], range(40)):
                 self.assertEqual(ask(*BEGIN_BUSY, tick(ticks), nets(16, ups))[-1], [1])
 
+    def test_what_is_no_instruction(self):
+        words = [(4 << 12) | (d << 9) | 256 | i8 for d in (0, 1, 7) for i8 in (0, 1, 128, 255)]
+        words += [(1 << 12) | 3, (1 << 12) | 0o1237, (11 << 12) | 8, 53249 + 64, 65535]
+        values = [set_(k, 65535 - k) for k in range(8)]
+        for word in words:
+            with self.subTest(word=hex(word)):
+                self.assertEqual(ask(*values, put(0, [word]), nets(8), tick(2), nets(8), tick(1), nets(8))[9::2],
+                                 [[1], [1], [1]])
+
     def answer(self, spoil, *calls):
         def made():
             net = Net()

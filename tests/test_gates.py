@@ -214,6 +214,15 @@ class TheNet(unittest.TestCase):
         for seed in range(4000):
             self.assertTrue(Trial(seed).agrees(net), seed)
 
+    def test_v_of_what_is_no_instruction(self):
+        net = Net()
+        for word in [word for word in range(0, 65536, 11) if name_of(word) is None]:
+            pipe = Pipe()
+            pipe.in_reckon = (9, word, 65535, 1)
+            # Memory's place is the parts 17 to 21 of the cells.
+            memory = parted(net_tick(net, cells_of(pipe), 0, 0, 0)[1])[17:22]
+            self.assertEqual([number_of(part) for part in memory], [1, 9, word, 0, 1])
+
     def test_what_it_takes_in_is_not_changed(self):
         net = Net()
         trial = Trial(1)

@@ -73,9 +73,25 @@ class Place(unittest.TestCase):
                      (13 << 12) | (1 << 9) | 8 | 2, HALT + 1, 65535):
             with self.subTest(word=hex(word)):
                 got = ask(*values, put(50, [word]), go(50), tick(2), place(2), tick(1), place(3))
-                # Its kind is its op: of ldh's the 8 bits are there, with x 0 below them.
-                v = 255 * 256 if word >> 12 == 4 else 0
-                self.assertEqual([got[-3], got[-1]], [[1, 50, word, 0, 0], [1, 50, word, v, 0]])
+                self.assertEqual([got[-3], got[-1]], [[1, 50, word, 0, 0], [1, 50, word, 0, 0]])
+
+    def test_v_of_all_that_is_no_instruction(self):
+        words = [word for word in range(65536) if name_of(word) is None]
+        # Of ops 1, 4, 11 to 15.
+        self.assertEqual(len(words), 5 * 512 + 2048 + 4088 + 4095 + (4096 - 40) + 4095 + 4096)
+        values = [set_(k, 65535 - k) for k in range(8)]
+        for start in range(0, len(words), 70):
+            some = words[start:start + 70]
+            calls = []
+            for word in some:
+                calls += [put(50, [word]), go(50), tick(3), place(3)]
+            self.assertEqual(ask(*values, *calls)[8 + 3::4], [[1, 50, word, 0, 0] for word in some])
+
+    def test_v_of_ldh_beside_it(self):
+        # With bit 8 0 they're instructions, and x is r1.
+        for i8 in (0, 1, 128, 255):
+            got = ask(set_(1, 0x1234), put(50, [ldh(1, i8)]), go(50), tick(3), place(3))
+            self.assertEqual(got[-1], [1, 50, ldh(1, i8), i8 * 256 + 0x34, 0])
 
 
 class Trace(unittest.TestCase):
@@ -369,6 +385,13 @@ class Cells(unittest.TestCase):
         self.check(got[-1], {
             16: 65535, 32: 777, self.FETCH: 3, self.READ: 1, self.READ + 1: 2, self.RECKON: 1, self.RECKON + 1: 1,
             self.MEMORY: 1, self.MEMORY + 17: w[0], self.MEMORY + 33: 780, self.MEMORY + 49: 65535})
+
+    def test_v_of_what_is_no_instruction(self):
+        for w in (16641, (4 << 12) | (7 << 9) | 511, three(1, 3, 3, 1, 2), 65535):
+            got = ask(put(0, [w]), set_(7, 65535), tick(3), cells())
+            self.check(got[-1], {
+                7 * 16: 65535, self.FETCH: 3, self.READ: 1, self.READ + 1: 2, self.RECKON: 1, self.RECKON + 1: 1,
+                self.MEMORY: 1, self.MEMORY + 17: w})
 
     def test_behind_a_trap(self):
         for k, cause in ((0, 16), (7, 23)):

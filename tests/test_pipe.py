@@ -86,8 +86,8 @@ class Flow(unittest.TestCase):
             (bz(1, 4), 1000, 0, 0), (bnz(4, 4), 0, 0, 0), (jal(3, 4), 0, 0, 21), (jr(3, 1, 4), 1000, 0, 21),
             (trap(4), 0, 0, 0), (RET, 0, 0, 0), (HALT, 0, 0, 0), (own("from", 1), 0, 0, 0),
             (own("back", 1), 1000, 0, 1000), (own("let", 2), 700, 0, 700), (own("may", 1), 0, 0, 0),
-            # What's no instruction reads nothing; its kind is its op.
-            (65535, 0, 0, 0), ((1 << 12) | 5, 0, 0, 0), ((4 << 12) | (1 << 9) | 511, 0, 0, 255 * 256),
+            # What's no instruction reads nothing and is of no kind.
+            (65535, 0, 0, 0), ((1 << 12) | 5, 0, 0, 0), ((4 << 12) | (1 << 9) | 511, 0, 0, 0),
             ((13 << 12) | (1 << 9) | 8 | 2, 0, 0, 0), (trap(8), 0, 0, 0), (RET + 1, 0, 0, 0), (HALT + 1, 0, 0, 0),
         ]
         for word, x, y, v in rows:
